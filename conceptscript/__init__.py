@@ -1,0 +1,1 @@
+"""Conceptscript: Frege's notation and proofs."""
