@@ -52,3 +52,68 @@ def signs(formula):
     if formula[0] == "not":
         return ["~", *signs(formula[1])]
     return ["(", *signs(formula[1]), "->", *signs(formula[2]), ")"]
+
+
+HYPOTHESIS = ("hypothesis",)
+
+
+def chance_axiom(rng, filling):
+    """An instance of some axiom with formulas that filling makes, as a line of a proof."""
+    a, b, c, d = (filling() for _ in range(4))
+    k = rng.randint(1, 6)
+    return [
+        cond(a, b, a),
+        cond(cond(c, b, a), cond(c, b), c, a),
+        cond(cond(d, b, a), b, d, a),
+        cond(cond(b, a), no(a), no(b)),
+        cond(no(no(a)), a),
+        cond(a, no(no(a))),
+    ][k - 1], ("axiom", k)
+
+
+def chance_proof(rng, many, names):
+    """A right proof of so many lines, with formulas that stand in several lines and lines that nothing needs."""
+    lines = []
+    while len(lines) < many:
+        formulas = [formula for formula, _ in lines]
+        ready = [(i, j) for i, whole in enumerate(formulas) for j, part in enumerate(formulas)
+                 if whole[0] == "if" and whole[1] == part]
+        fresh = [pair for pair in ready if formulas[pair[0]][2] not in formulas]
+        chance = rng.random()
+        if fresh and chance < 0.5:
+            i, j = rng.choice(fresh)
+            lines.append((formulas[i][2], ("detach", i, j)))
+        elif ready and chance < 0.55:
+            i, j = rng.choice(ready)
+            lines.append((formulas[i][2], ("detach", i, j)))
+        elif formulas and chance < 0.7:
+            lines.append((cond(rng.choice(formulas), chance_formula(rng, rng.randint(1, 3), names)), HYPOTHESIS))
+        elif formulas and chance < 0.75:
+            lines.append((rng.choice(formulas), HYPOTHESIS))
+        elif formulas and chance < 0.85:
+            part = rng.choice(formulas)
+            lines.append((cond(part, chance_formula(rng, rng.randint(1, 3), names), part), ("axiom", 1)))
+        elif chance < 0.95:
+            lines.append(chance_axiom(rng, lambda: chance_formula(rng, rng.randint(1, 4), names)))
+        else:
+            lines.append((chance_formula(rng, rng.randint(1, 4), names), HYPOTHESIS))
+    return tuple(lines)
+
+
+# a -> a, out of the axioms 1 and 2.
+SELF = (
+    (cond(cond(A, cond(A, A), A), cond(A, A, A), A, A), ("axiom", 2)),
+    (cond(A, cond(A, A), A), ("axiom", 1)),
+    (cond(cond(A, A, A), A, A), ("detach", 0, 1)),
+    (cond(A, A, A), ("axiom", 1)),
+    (cond(A, A), ("detach", 2, 3)),
+)
+
+# c from a, a -> b and b -> c.
+CHAIN = (
+    (cond(A, B), HYPOTHESIS),
+    (A, HYPOTHESIS),
+    (B, ("detach", 0, 1)),
+    (cond(B, C), HYPOTHESIS),
+    (C, ("detach", 3, 2)),
+)

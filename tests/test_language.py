@@ -29,6 +29,30 @@ INTERFACE = {
         "write": ("formula",),
         "read": ("text",),
     },
+    "drawings.py": {
+        "draw": ("formula",),
+        "read_drawing": ("rows",),
+        "width": ("formula",),
+        "height": ("formula",),
+    },
+    "truth.py": {
+        "is_true": ("formula", "row"),
+        "falsifying": ("formula",),
+        "alike": ("formula", "other"),
+    },
+    "proofs.py": {
+        "check": ("proof",),
+        "proved": ("proof",),
+        "hypotheses": ("proof",),
+        "axioms_of": ("proof",),
+        "tree_size": ("proof",),
+    },
+    "shaping.py": {
+        "trimmed": ("proof",),
+        "joined": ("proof", "other"),
+        "replaced": ("proof", "table"),
+        "discharged": ("proof", "formula"),
+    },
 }
 
 LIBRARY = {
@@ -148,11 +172,111 @@ class TestCode(unittest.TestCase):
                         self.assertNotIn(node.arg, known)
 
     def test_methods(self):
+        own = {node.name for _, _, tree in modules() for kind in classes(tree) for node in kind.body
+               if isinstance(node, ast.FunctionDef)}
         for path, _, tree in modules():
             for node in ast.walk(tree):
                 if isinstance(node, ast.Call) and isinstance(node.func, ast.Attribute):
                     with self.subTest(path=path.name, line=node.lineno):
-                        self.assertIn(node.func.attr, METHODS)
+                        self.assertIn(node.func.attr, METHODS | own)
+
+    def test_own_methods_and_attributes(self):
+        barred = set(dir(str)) | set(dir(list)) | set(dir(dict)) | set(dir(set)) | set(dir(int)) | set(dir(bytes))
+        attributes, methods = {}, {}
+        for path, _, tree in modules():
+            for kind in classes(tree):
+                methods[kind.name] = {node.name for node in kind.body if isinstance(node, ast.FunctionDef)}
+                attributes[kind.name] = {node.attr for node in ast.walk(kind) if isinstance(node, ast.Attribute)
+                                         and isinstance(node.ctx, ast.Store)}
+        for name, found in methods.items():
+            self.assertFalse(found & barred - {"__init__"}, name)
+            self.assertFalse(attributes[name] & barred, name)
+            for other in attributes.values():
+                self.assertFalse(found & other, name)
+
+    def test_no_local_name_is_that_of_an_import_or_a_class(self):
+        for path, _, tree in modules():
+            taken = {alias.name for node in tree.body if isinstance(node, ast.ImportFrom) for alias in node.names}
+            taken |= {kind.name for kind in classes(tree)}
+            for node in ast.walk(tree):
+                with self.subTest(path=path.name, line=getattr(node, "lineno", None)):
+                    if isinstance(node, ast.arg):
+                        self.assertNotIn(node.arg, taken)
+                    if isinstance(node, ast.Name) and not isinstance(node.ctx, ast.Load):
+                        self.assertNotIn(node.id, taken)
+
+    def test_each_import_is_used_and_names_the_file_that_defines_it(self):
+        trees = {"conceptscript." + path.stem: tree for path, _, tree in modules()}
+        for path, _, tree in modules():
+            used = {node.id for node in ast.walk(tree) if isinstance(node, ast.Name)}
+            for node in tree.body:
+                if isinstance(node, ast.ImportFrom):
+                    for alias in node.names:
+                        with self.subTest(path=path.name, name=alias.name):
+                            self.assertIn(alias.name, used)
+                            self.assertIsNone(alias.asname)
+                            if node.module in trees:
+                                self.assertIn(alias.name, bound_names(trees[node.module]))
+
+    def test_no_imports_in_a_circle(self):
+        wanted = {}
+        for path, _, tree in modules():
+            wanted[path.stem] = {node.module.rpartition(".")[2] for node in tree.body
+                                 if isinstance(node, ast.ImportFrom) and node.module not in LIBRARY}
+        while wanted:
+            free = [name for name, others in wanted.items() if not others & set(wanted)]
+            self.assertTrue(free, wanted)
+            for name in free:
+                del wanted[name]
+
+    def test_sets_and_generators(self):
+        for path, _, tree in modules():
+            parents = {child: node for node in ast.walk(tree) for child in ast.iter_child_nodes(node)}
+            for node in ast.walk(tree):
+                with self.subTest(path=path.name, line=getattr(node, "lineno", None)):
+                    if isinstance(node, ast.GeneratorExp):
+                        self.assertIn(called_name(parents[node]), GENERATOR_TAKERS)
+                    if isinstance(node, (ast.Set, ast.SetComp)) or called_name(node) == "set":
+                        whole = parents[node]
+                        stored = isinstance(whole, ast.Assign) and isinstance(whole.targets[0], ast.Name)
+                        compared = isinstance(whole, ast.Compare)
+                        self.assertTrue(stored or compared or called_name(whole) in ("sorted", "len"))
+
+    def test_is(self):
+        for path, _, tree in modules():
+            for node in ast.walk(tree):
+                if isinstance(node, ast.Compare) and isinstance(node.ops[0], (ast.Is, ast.IsNot)):
+                    with self.subTest(path=path.name, line=node.lineno):
+                        other = node.comparators[0]
+                        of_kind = called_name(node.left) == "type" and isinstance(other, ast.Name)
+                        self.assertTrue(of_kind or isinstance(other, ast.Constant) and other.value in (None, True, False))
+
+    def test_each_call_of_an_own_function_passes_what_it_takes(self):
+        many = {node.name: len(node.args.args) for _, _, tree in modules() for node in tree.body
+                if isinstance(node, ast.FunctionDef)}
+        for path, _, tree in modules():
+            for node in ast.walk(tree):
+                if called_name(node) in many:
+                    with self.subTest(path=path.name, line=node.lineno):
+                        self.assertEqual(len(node.args) + len(node.keywords), many[node.func.id])
+
+
+GENERATOR_TAKERS = ("list", "tuple", "dict", "sorted", "sum", "min", "max", "any", "all")
+
+
+def classes(tree):
+    return [node for node in tree.body if isinstance(node, ast.ClassDef)]
+
+
+def called_name(node):
+    """The bare name that a call calls, or None."""
+    return node.func.id if isinstance(node, ast.Call) and isinstance(node.func, ast.Name) else None
+
+
+def bound_names(tree):
+    """The names that a module itself defines."""
+    names = {node.name for node in tree.body if isinstance(node, (ast.FunctionDef, ast.ClassDef))}
+    return names | {node.targets[0].id for node in tree.body if isinstance(node, ast.Assign)}
 
 
 def is_plain(text):
