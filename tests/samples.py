@@ -117,3 +117,13 @@ CHAIN = (
     (cond(B, C), HYPOTHESIS),
     (C, ("detach", 3, 2)),
 )
+
+
+def formulas_up_to(size, letters):
+    """All formulas over the letters of at most this size."""
+    found = [[], list(letters)]
+    for many in range(2, size + 1):
+        found.append([no(p) for p in found[many - 1]])
+        for left in range(1, many - 1):
+            found[many] += [("if", p, q) for p in found[left] for q in found[many - 1 - left]]
+    return [formula for formulas in found for formula in formulas]

@@ -53,6 +53,22 @@ INTERFACE = {
         "replaced": ("proof", "table"),
         "discharged": ("proof", "formula"),
     },
+    "classical.py": {
+        "prove": ("formula",),
+    },
+    "worlds.py": {
+        "is_model": ("model", "strength"),
+        "holds": ("model", "world", "formula", "strength"),
+    },
+    "positive.py": {
+        "decide": ("formula", "strength"),
+    },
+    "following.py": {
+        "follows": ("hypotheses", "formula", "strength"),
+        "judge": ("hypotheses", "formula", "strength", "paper"),
+        "least_sets": ("hypotheses", "formula", "strength"),
+        "strongest": ("formula",),
+    },
 }
 
 LIBRARY = {
