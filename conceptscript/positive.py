@@ -4,6 +4,7 @@ The search is Dyckhoff's, without contractions: each step makes what is known an
 its failed steps are the worlds of a model, as Pinto and Dyckhoff have shown.
 """
 
+from conceptscript.assumptions import exchanged, with_one
 from conceptscript.natural import ABSURD, Stock, apply, assume, given, meanwhile, proof_of
 
 
@@ -12,7 +13,7 @@ class Search:
 
     def __init__(self, stock):
         self.stock = stock
-        # The formulas that are there from the beginning: with each of them its parts.
+        # So many formulas are there from the beginning, with all their parts; worlds are told apart by these.
         self.many = len(stock.parts)
         self.found = {}
         self.models = {}
@@ -98,7 +99,7 @@ class Search:
         return self.models[known]
 
     def stuck(self, known, goal):
-        """What is known where no step is left that leads to one other goal alone that has no term."""
+        """What is known behind all steps that lead from a goal without a term to just one other such goal."""
         while True:
             if self.stock.parts[goal]:
                 condition, goal = self.stock.parts[goal]
@@ -133,16 +134,6 @@ class Search:
             elif not any(self.is_counter(world, x) for world in later + [held]):
                 held.append(x)
         return tuple(held)
-
-
-def with_one(known, x):
-    """What is known and one formula more."""
-    return tuple(sorted(set(known + (x,))))
-
-
-def exchanged(known, x, other):
-    """What is known with another formula in the place of x."""
-    return with_one(tuple([y for y in known if y != x]), other)
 
 
 def decide(formula, strength):

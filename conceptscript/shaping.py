@@ -2,7 +2,6 @@
 
 from conceptscript.building import Lines, moved
 from conceptscript.formulas import put
-from conceptscript.proofs import proved
 
 
 def trimmed(proof):
@@ -44,16 +43,10 @@ def needed_lines(proof, firsts):
 
 def joined(proof, other):
     """The proof with what the other one proves in place of the hypotheses that are this formula; trimmed."""
-    formula_held = proved(other)
-    lines = list(other)
-    places = []
-    for formula, why in proof:
-        if why[0] == "hypothesis" and formula == formula_held:
-            places.append(len(other) - 1)
-        else:
-            places.append(len(lines))
-            lines.append((formula, moved(why, places)))
-    return trimmed(lines[:places[-1] + 1])
+    places = [len(other) + line for line in range(len(proof))]
+    raised = tuple([(formula, moved(why, places)) for formula, why in proof])
+    # The other one stands first, so trimming takes its line for each hypothesis that it proves.
+    return trimmed(other + raised)
 
 
 def replaced(proof, table):

@@ -160,7 +160,8 @@ NO_PAPERS = [
     ("counter", ("row", 0)), ("counter", ["row", ()]), ("counter", ("Row", ())), ("counter", (None, ())),
     ("counter", ("row", (), ())), ("counter", ("row", (None,))), ("counter", ("row", (1,))),
     ("counter", ("row", (("a",),))), ("counter", ("row", (A,))), ("counter", ("row", ("A",))),
-    ("counter", ("row", (True,))), ("counter", ("row", {"a"})),
+    ("counter", ("row", (True,))), ("counter", ("row", {"a"})), ("counter", ("row", (1, "a"))),
+    ("counter", ("row", ("a", None))), ("counter", ("row", ("b", 1, "a"))),
     ("counter", ("model",)), ("counter", ("model", ((0,),), ((),))), ("counter", ("model", ((False,),), ((),), ())),
     ("counter", ("model", None, None, None)), ("counter", ["model", ((0,),), ((),), ()]),
     ("counter", ("model", (), (), ())), ("counter", (("model", ((0,),), ((),), ()),)),
@@ -239,6 +240,13 @@ class TestJudge(unittest.TestCase):
         ]:
             self.assert_judged(("counter", ("row", row)), assumed, formula, "full")
 
+    def test_kinds_of_papers(self):
+        for kind in ("Counter", "counters", "row", "model", "", None, 1, ("counter",)):
+            self.assert_judged((kind, ("row", ())), (), A, "")
+            self.assert_judged((kind, ONE_WORLD), (), B, "")
+        for kind in ("Proof", "proofs", "counter", "", None, 0, ("proof",)):
+            self.assert_judged((kind, SELF), (), cond(A, A), "")
+
     def test_wrong_rows(self):
         for row, assumed, formula in [
             (("a",), (), A),
@@ -298,6 +306,13 @@ class TestJudge(unittest.TestCase):
             self.assert_judged(("proof", (*SELF[:4], line)), (itself,), itself, "")
             self.assert_judged(("proof", (*SELF, line)), (itself,), itself, "")
             self.assert_judged(("proof", (line, (itself, HYPOTHESIS))), (itself,), itself, "")
+
+    def test_formulas_that_are_none(self):
+        for formula in (None, "a", 1, (), ("a",), ("letter",), ("letters", "a"), (None, "a"), ("letter", "A"),
+                        ("letter", "a", "b"), ("not",), ("not", "a"), ("not", A, A), ("if", A), ("if", A, A, A),
+                        ("or", A, A), ["letter", "a"], ("letter", 1), ("letter", ("a",))):
+            lines = ((cond(formula, B, formula), ("axiom", 1)), (A, HYPOTHESIS))
+            self.assert_judged(("proof", lines), (A,), A, "")
 
     def test_true_and_false_are_no_numbers(self):
         axiom = (cond(A, B, A), ("axiom", True))

@@ -5,15 +5,7 @@ import unittest
 
 from conceptscript.formulas import axiom, is_instance, letters, match, numbers, put, size
 from samples import A, A0, B, B0, C, D, NAMES, TOWERS, Z9, chance_formula, cond, no, signs
-
-AXIOMS = {
-    1: cond(A, B, A),
-    2: cond(cond(C, B, A), cond(C, B), C, A),
-    3: cond(cond(D, B, A), B, D, A),
-    4: cond(cond(B, A), no(A), no(B)),
-    5: cond(no(no(A)), A),
-    6: cond(A, no(no(A))),
-}
+from walks import PATTERNS as AXIOMS
 
 # Formulas of unlike kinds, some of them parts of others, to stand for the letters of an axiom.
 FILLINGS = {

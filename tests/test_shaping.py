@@ -9,6 +9,16 @@ from samples import A, A0, B, C, CHAIN, D, HYPOTHESIS, NAMES, SELF, chance_formu
 from walks import PATTERNS, is_proof, is_right_line
 
 
+# b from a -> a -> b and a, which stands in two lines.
+TWICE = (
+    (A, HYPOTHESIS),
+    (cond(A, A, B), HYPOTHESIS),
+    (cond(A, B), ("detach", 1, 0)),
+    (A, HYPOTHESIS),
+    (B, ("detach", 2, 3)),
+)
+
+
 def assumed_in(proof):
     return list(dict.fromkeys(formula for formula, why in proof if why == HYPOTHESIS))
 
@@ -130,15 +140,8 @@ class TestJoined(TestCase):
         ))
 
     def test_a_hypothesis_that_stands_several_times(self):
-        proof = (
-            (A, HYPOTHESIS),
-            (cond(A, A, B), HYPOTHESIS),
-            (cond(A, B), ("detach", 1, 0)),
-            (A, HYPOTHESIS),
-            (B, ("detach", 2, 3)),
-        )
         other = ((cond(C, A), HYPOTHESIS), (C, HYPOTHESIS), (A, ("detach", 0, 1)))
-        self.assertEqual(joined(proof, other), (
+        self.assertEqual(joined(TWICE, other), (
             *other,
             (cond(A, A, B), HYPOTHESIS),
             (cond(A, B), ("detach", 3, 2)),
@@ -246,11 +249,7 @@ class TestDischarged(TestCase):
 
     def test_a_hypothesis_that_is_used_several_times(self):
         proof = (
-            (A, HYPOTHESIS),
-            (cond(A, A, B), HYPOTHESIS),
-            (cond(A, B), ("detach", 1, 0)),
-            (A, HYPOTHESIS),
-            (B, ("detach", 2, 3)),
+            *TWICE,
             (cond(B, A, C), HYPOTHESIS),
             (cond(A, C), ("detach", 5, 4)),
             (C, ("detach", 6, 0)),

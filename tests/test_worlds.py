@@ -4,7 +4,7 @@ import random
 import unittest
 
 from conceptscript.worlds import holds, is_model
-from samples import A, A0, B, C, chance_formula, cond, no
+from samples import A, A0, B, C, Z9, chance_formula, cond, no
 from walks import AXIOMS_OF, PATTERNS, does_hold, is_right_model
 
 BOTH = ("positive", "minimal")
@@ -15,6 +15,7 @@ MODELS = [
     ("model", ((0,),), ((),), (0,)),
     ("model", ((0,),), ((A,),), ()),
     ("model", ((0,),), ((B, A, A0),), (0,)),
+    ("model", ((0,),), ((Z9, ("letter", "z"), ("letter", "z0"), A, ("letter", "a9"), A0),), ()),
     ("model", ((0, 1), (1,)), ((), (A,)), ()),
     ("model", ((0, 1), (1,)), ((A,), (B, A)), (1,)),
     ("model", ((0, 1), (1,)), ((A,), (A,)), (0, 1)),
@@ -70,6 +71,17 @@ NO_MODELS = [
     ("model", ((0,),), ((("letter", "aa"),),), ()),
     ("model", ((0,),), ((("letter", ""),),), ()),
     ("model", ((0,),), ((("letter", "5"),),), ()),
+    ("model", ((0,),), ((("letter", "`"),),), ()),
+    ("model", ((0,),), ((("letter", "{"),),), ()),
+    ("model", ((0,),), ((("letter", "a/"),),), ()),
+    ("model", ((0,),), ((("letter", "a:"),),), ()),
+    ("model", ((0,),), ((("letter", "\u00e4"),),), ()),
+    ("model", ((0,),), ((("letter", "a\u0661"),),), ()),
+    ("model", ((0,),), ((("letters", "a"),),), ()),
+    ("model", ((0,),), ((("not", ("letters", "a")),),), ()),
+    ("model", ((0,),), ((("not", ("not", (None, "a"))),),), ()),
+    ("model", ((0,),), (((None, "a"),),), ()),
+    ("model", ((0,),), ((("or", A, B),),), ()),
     ("model", ((0,),), ((("letter",),),), ()),
     ("model", ((0,),), ((("letter", "a", "b"),),), ()),
     ("model", ((0,),), ((("not", "a"),),), ()),
@@ -130,6 +142,10 @@ class TestIsModel(unittest.TestCase):
             for strength in BOTH:
                 with self.subTest(model=model, strength=strength):
                     self.assertIs(is_model(model, strength), False)
+
+    def test_another_strength(self):
+        for model in (MODELS[0], POSITIVE_MODELS[0]):
+            self.assertIs(is_model(model, "full"), False)
 
     def test_one_world_changed(self):
         later = ((0, 1, 2, 3), (1, 3), (2, 3), (3,))
