@@ -4,39 +4,38 @@ from conceptscript.formulas import axiom, put
 
 
 class Lines:
-    """Lines of a proof in which no formula stands twice; each method that adds one gives its formula's line."""
+    """Lines of a proof; each method that adds lines gives the number of the last of them."""
 
     def __init__(self):
         self.lines = []
-        # A formula's key is its text in Python, as tuples that grow deep are none.
-        self.places = {}
 
-    def taken(self, formula, why):
-        """The line of a formula; it is added for this reason if the formula is not there."""
-        key = repr(formula)
-        if key not in self.places:
-            self.places[key] = len(self.lines)
-            self.lines.append((formula, why))
-        return self.places[key]
+    def added(self, formula, why):
+        """A line of a formula, for this reason."""
+        self.lines.append((formula, why))
+        return len(self.lines) - 1
 
     def instance(self, k, table):
         """An instance of the axiom k, with the table's formulas for its letters."""
-        return self.taken(put(axiom(k), table), ("axiom", k))
+        return self.added(put(axiom(k), table), ("axiom", k))
 
     def detach(self, i, j):
         """What the conditional of line i and the condition of line j prove."""
-        return self.taken(self.lines[i][0][2], ("detach", i, j))
+        return self.added(self.formula(i)[2], ("detach", i, j))
 
     def copied(self, proof):
-        """What another proof proves, with all its lines."""
-        places = []
-        for formula, why in proof:
-            places.append(self.taken(formula, moved(why, places)))
+        """All lines of another proof."""
+        start = len(self.lines)
+        places = [start + line for line in range(len(proof))]
+        self.lines.extend([(formula, moved(why, places)) for formula, why in proof])
         return places[-1]
 
-    def upto(self, place):
+    def formula(self, line):
+        """The formula of a line."""
+        return self.lines[line][0]
+
+    def upto(self, line):
         """The proof that ends with this line."""
-        return tuple(self.lines[:place + 1])
+        return tuple(self.lines[:line + 1])
 
 
 def moved(why, places):

@@ -43,10 +43,10 @@ def needed_lines(proof, firsts):
 
 def joined(proof, other):
     """The proof with what the other one proves in place of the hypotheses that are this formula; trimmed."""
-    places = [len(other) + line for line in range(len(proof))]
-    raised = tuple([(formula, moved(why, places)) for formula, why in proof])
+    lines = Lines()
+    lines.copied(other)
     # The other one stands first, so trimming takes its line for each hypothesis that it proves.
-    return trimmed(other + raised)
+    return trimmed(lines.upto(lines.copied(proof)))
 
 
 def replaced(proof, table):
@@ -76,11 +76,11 @@ def under(lines, places, hypothesis, line):
     if why[0] == "hypothesis" and formula == hypothesis:
         return (True, conditional_to_itself(lines, hypothesis))
     if why[0] != "detach":
-        return (False, lines.taken(formula, why))
+        return (False, lines.added(formula, why))
     major, minor = places[why[1]], places[why[2]]
     if not major[0] and not minor[0]:
         return (False, lines.detach(major[1], minor[1]))
-    if not major[0] and lines.lines[major[1]][0][1] == hypothesis:
+    if not major[0] and lines.formula(major[1])[1] == hypothesis:
         # The line rests on the hypothesis by its condition alone, so the conditional is there already.
         return (True, major[1])
     return (True, detached_under(lines, hypothesis, major, minor))
@@ -99,7 +99,7 @@ def conditional_to(lines, hypothesis, place):
     """The conditional from the hypothesis to the formula of a pair (rests, place)."""
     if place[0]:
         return place[1]
-    raised = lines.instance(1, {"a": lines.lines[place[1]][0], "b": hypothesis})
+    raised = lines.instance(1, {"a": lines.formula(place[1]), "b": hypothesis})
     return lines.detach(raised, place[1])
 
 
@@ -107,6 +107,6 @@ def detached_under(lines, hypothesis, major, minor):
     """The conditional from the hypothesis to what is detached, from those to both parts."""
     first = conditional_to(lines, hypothesis, major)
     second = conditional_to(lines, hypothesis, minor)
-    _, condition, consequence = lines.lines[first][0][2]
+    _, condition, consequence = lines.formula(first)[2]
     spread = lines.instance(2, {"c": hypothesis, "b": condition, "a": consequence})
     return lines.detach(lines.detach(spread, first), second)

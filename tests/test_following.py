@@ -6,6 +6,7 @@ import time
 import unittest
 
 from conceptscript.following import follows, judge, least_sets, strongest
+from conceptscript.formulas import put
 from conceptscript.texts import read
 from samples import A, B, C, CHAIN, D, HYPOTHESIS, SELF, chance_formula, cond, formulas_up_to, no
 from walks import AXIOMS_OF, PATTERNS, all_rows, is_right_paper, truth
@@ -124,6 +125,14 @@ class TestFollows(unittest.TestCase):
                 found = [self.assert_paper((assumed,), formula, strength) for strength in STRENGTHS]
                 self.assertEqual(found[2], all(truth(formula, row) or not truth(assumed, row)
                                                for row in all_rows("ab")))
+
+    def test_with_the_formula_whose_negation_the_provers_take_for_the_absurd(self):
+        for text in ("a -> a -> a", "~(a -> a -> a)", "~~(a -> a -> a)"):
+            table = {"b": read(text)}
+            for formula in formulas_up_to(5, (A, B)):
+                for strength in STRENGTHS:
+                    self.assert_paper((), put(formula, table), strength)
+                    self.assert_paper((table["b"],), formula, strength)
 
     def test_as_the_conditional(self):
         rng = random.Random(92)
