@@ -38,6 +38,31 @@ class Lines:
         return tuple(self.lines[:line + 1])
 
 
+class LinesOnce(Lines):
+    """Lines of a proof in which no formula stands twice: the line that is there stands for a later one."""
+
+    def __init__(self):
+        Lines.__init__(self)
+        self.places = {}
+
+    def once(self, formula, why):
+        """The line of a formula, which is added for this reason if it is not there."""
+        if not self.has(formula):
+            self.places[repr(formula)] = self.added(formula, why)
+        return self.places[repr(formula)]
+
+    def has(self, formula):
+        """Whether there is a line of a formula."""
+        return repr(formula) in self.places
+
+    def taken(self, proof):
+        """The line of what another proof proves, of which all lines are added that are not there."""
+        places = []
+        for formula, why in proof:
+            places.append(self.once(formula, moved(why, places)))
+        return places[-1]
+
+
 def moved(why, places):
     """A line's reason with the new places of the lines that it names."""
     if why[0] == "detach":

@@ -19,8 +19,13 @@ def falsifying(formula):
 
 def refuting(assumed, formula):
     """The first row of all letters that makes what is assumed true and the formula false, or None."""
-    for row in selections(names_of((*assumed, formula))):
-        if not is_true(formula, row) and all(is_true(part, row) for part in assumed):
+    return breaking(assumed, (formula,))
+
+
+def breaking(left, right):
+    """The first row of all letters that makes all formulas on the left true and all on the right false, or None."""
+    for row in selections(names_of((*left, *right))):
+        if not any(is_true(part, row) for part in right) and all(is_true(part, row) for part in left):
             return row
     return None
 

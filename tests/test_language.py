@@ -69,6 +69,52 @@ INTERFACE = {
         "least_sets": ("hypotheses", "formula", "strength"),
         "strongest": ("formula",),
     },
+    "tables.py": {
+        "value": ("table", "formula", "values"),
+        "is_kept": ("table", "formula"),
+        "keeps_rule": ("table",),
+        "is_table": ("table",),
+        "parts": ("table", "axioms", "formula"),
+    },
+    "apart.py": {
+        "why_apart": ("k",),
+        "find_table": ("axioms", "formula"),
+    },
+    "unifying.py": {
+        "unify": ("formula", "other"),
+        "renamed": ("formula",),
+    },
+    "steps.py": {
+        "steps_of": ("proof",),
+        "general": ("steps",),
+        "proof_of": ("steps",),
+        "length": ("steps",),
+    },
+    "books.py": {
+        "check_book": ("book",),
+        "unfolded": ("book", "name"),
+        "uses": ("book", "name"),
+    },
+    "sequents.py": {
+        "is_sequent_proof": ("proof",),
+        "has_cut": ("proof",),
+        "nodes": ("proof",),
+        "decide_sequent": ("left", "right"),
+        "sequents_of": ("proof",),
+        "without_cuts": ("proof",),
+        "formula_of": ("left", "right"),
+    },
+    "normal.py": {
+        "normal": ("formula",),
+        "normal_of": ("names", "rows"),
+        "normal_proofs": ("formula",),
+    },
+    "interpolants.py": {
+        "interpolant": ("p", "q"),
+        "is_interpolant": ("p", "q", "i"),
+        "strongest_over": ("p", "names"),
+        "weakest_over": ("p", "names"),
+    },
 }
 
 LIBRARY = {
@@ -268,9 +314,15 @@ class TestCode(unittest.TestCase):
                         self.assertTrue(of_kind or isinstance(other, ast.Constant) and other.value in (None, True, False))
 
     def test_each_call_of_an_own_function_passes_what_it_takes(self):
-        many = {node.name: len(node.args.args) for _, _, tree in modules() for node in tree.body
-                if isinstance(node, ast.FunctionDef)}
+        defined = {"conceptscript." + path.stem: {node.name: len(node.args.args) for node in tree.body
+                                                  if isinstance(node, ast.FunctionDef)}
+                   for path, _, tree in modules()}
         for path, _, tree in modules():
+            many = dict(defined["conceptscript." + path.stem])
+            for node in tree.body:
+                if isinstance(node, ast.ImportFrom):
+                    known = defined.get(node.module, {})
+                    many |= {alias.name: known[alias.name] for alias in node.names if alias.name in known}
             for node in ast.walk(tree):
                 if called_name(node) in many:
                     with self.subTest(path=path.name, line=node.lineno):

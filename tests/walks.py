@@ -1,4 +1,9 @@
-"""Plain walks through papers, from the words of the document, without the program: proofs, rows and models of worlds."""
+"""Plain walks through papers, from the words of the document, without the program.
+
+Proofs, rows, models of worlds, tables, unified formulas and sequent proofs.
+"""
+
+import itertools
 
 from samples import A, B, C, D, cond, no
 
@@ -129,3 +134,143 @@ def is_right_paper(paper, assumed, formula, strength):
     if strength == "full":
         return worth[0] == "row" and len(worth) == 2 and is_row_counter(worth[1], assumed, formula)
     return is_model_counter(worth, assumed, formula, strength)
+
+
+def value_in(table, formula, values):
+    """The value of a formula in a table, by [c8]."""
+    _, _, _, nots, ifs = table
+    if formula[0] == "letter":
+        return values[formula[1]]
+    if formula[0] == "not":
+        return nots[value_in(table, formula[1], values)]
+    return ifs[value_in(table, formula[1], values)][value_in(table, formula[2], values)]
+
+
+def does_keep(table, formula):
+    """Whether a formula has a designated value in a table whatever values its letters have."""
+    names = sorted(names_in(formula))
+    return all(value_in(table, formula, dict(zip(names, values))) in table[2]
+               for values in itertools.product(range(table[1]), repeat=len(names)))
+
+
+def does_keep_rule(table):
+    """Whether y is designated wherever x and ifs[x][y] are."""
+    _, many, designated, _, ifs = table
+    return not any(x in designated and ifs[x][y] in designated and y not in designated
+                   for x in range(many) for y in range(many))
+
+
+def stands_apart(table, axioms, formula):
+    """Whether what has the shape of a table keeps the rule and the axioms, but not the formula."""
+    if not does_keep_rule(table) or does_keep(table, formula):
+        return False
+    return all(does_keep(table, PATTERNS[k]) for k in axioms)
+
+
+def put_for(formula, table):
+    """The formula with the table's formulas for its letters, all at once."""
+    if formula[0] == "letter":
+        return table[formula[1]] if formula[1] in table else formula
+    return (formula[0], *[put_for(part, table) for part in formula[1:]])
+
+
+def unified(formula, other):
+    """A dict with which put_for, done again and again, makes two formulas the same; None if there is none.
+
+    Robinson's way: the first places at which they differ are made the same by one letter at a time.
+    """
+    table = {}
+    while True:
+        pair = first_difference(formula, other)
+        if pair is None:
+            return table
+        letter, worth = pair if pair[0][0] == "letter" else pair[::-1]
+        if letter[0] != "letter" or letter[1] in names_in(worth):
+            return None
+        step = {letter[1]: worth}
+        table = {name: put_for(part, step) for name, part in table.items()} | step
+        formula, other = put_for(formula, step), put_for(other, step)
+
+
+def first_difference(formula, other):
+    """The first parts, as the text has them, at which formulas differ in kind or name; None if they are the same."""
+    if formula == other:
+        return None
+    if formula[0] != other[0] or formula[0] == "letter":
+        return formula, other
+    for part, second in zip(formula[1:], other[1:]):
+        pair = first_difference(part, second)
+        if pair is not None:
+            return pair
+
+
+def in_text_order(formula):
+    """The names of a formula's letters, as often as they occur, in the order of its text."""
+    if formula[0] == "letter":
+        return [formula[1]]
+    return [name for part in formula[1:] for name in in_text_order(part)]
+
+
+def named_in_order(formula):
+    """The formula with its letters named as in [g2]."""
+    new = [small + digit for digit in ("", *"0123456789") for small in "abcdefghijklmnopqrstuvwxyz"]
+    return put_for(formula, {name: ("letter", new[at])
+                             for at, name in enumerate(dict.fromkeys(in_text_order(formula)))})
+
+
+def most_general(steps):
+    """The most general formula of steps, by [g2]; None if they prove nothing."""
+    if steps[0] == "axiom":
+        return named_in_order(PATTERNS[steps[1]]) if steps[1] in PATTERNS else None
+    first, second = most_general(steps[1]), most_general(steps[2])
+    if first is None or second is None or first[0] != "if":
+        return None
+    # Names that no text has hold the letters of both apart.
+    apart = put_for(second, {name: ("letter", name + "'") for name in names_in(second)})
+    table = unified(first[1], apart)
+    return None if table is None else named_in_order(put_for(first[2], table))
+
+
+def is_right_sequent_proof(proof, left, right):
+    """Whether what has the shape of a sequent proof is one of this sequent, by [s2]."""
+    kind, own_left, own_right, formula, inner = proof
+    if (own_left, own_right) != (left, right):
+        return False
+    without_left = tuple(sorted(set(left) - {formula}))
+    without_right = tuple(sorted(set(right) - {formula}))
+    if kind == "start":
+        wanted = [] if formula in left and formula in right else None
+    elif kind == "cut":
+        wanted = [(left, with_one(right, formula)), (with_one(left, formula), right)]
+    elif kind == "not left" and formula in left and formula[0] == "not":
+        wanted = [(without_left, with_one(right, formula[1]))]
+    elif kind == "not right" and formula in right and formula[0] == "not":
+        wanted = [(with_one(left, formula[1]), without_right)]
+    elif kind == "if left" and formula in left and formula[0] == "if":
+        wanted = [(without_left, with_one(right, formula[1])), (with_one(without_left, formula[2]), right)]
+    elif kind == "if right" and formula in right and formula[0] == "if":
+        wanted = [(with_one(left, formula[1]), with_one(without_right, formula[2]))]
+    else:
+        wanted = None
+    if wanted is None or len(wanted) != len(inner):
+        return False
+    return all(is_right_sequent_proof(part, *sequent) for part, sequent in zip(inner, wanted))
+
+
+def with_one(side, formula):
+    """A side of a sequent with a formula put in."""
+    return tuple(sorted(set(side) | {formula}))
+
+
+def kinds_in(proof):
+    """The kinds of all sequent proofs that stand in one, itself among them."""
+    return [proof[0], *[kind for part in proof[4] for kind in kinds_in(part)]]
+
+
+def first_breaking(left, right):
+    """The first row over the letters that breaks a sequent, or None."""
+    names = set().union(*[names_in(part) for part in (*left, *right)])
+    for row in all_rows(names):
+        if all(truth(part, row) for part in left) and not any(truth(part, row) for part in right):
+            return row
+    return None
